@@ -1,0 +1,1 @@
+"""Stepcells: rows of a small machine, laid out in cells."""
