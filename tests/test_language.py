@@ -46,6 +46,11 @@ def bound_names(nodes):
             yield node.name
 
 
+def top_names(tree):
+    names = [node.name for node in tree.body if isinstance(node, (ast.FunctionDef, ast.ClassDef))]
+    return names + [target.id for node in tree.body if isinstance(node, ast.Assign) for target in node.targets]
+
+
 class TestLanguage(unittest.TestCase):
     def test_files(self):
         names = [path.relative_to(PACKAGE).as_posix() for path in package_files()]
@@ -97,6 +102,54 @@ class TestLanguage(unittest.TestCase):
                     self.assertIn(node.id, ALLOWED_BUILTINS)
                 if isinstance(node, ast.Attribute):
                     self.assertIn(node.attr, ALLOWED_METHODS)
+
+    def test_no_two_files_draw_from_one_another(self):
+        drawn = {}
+        for path in package_files():
+            imports = [node for node in nodes_of(path) if isinstance(node, ast.ImportFrom)]
+            drawn[f"stepcells.{path.stem}"] = [node.module for node in imports]
+        # The file __init__.py stands above all others, so it draws from none.
+        self.assertEqual(drawn.pop("stepcells.__init__"), [])
+        while drawn:
+            free = [module for module, others in drawn.items() if not set(others) & set(drawn)]
+            self.assertNotEqual(free, [], drawn)
+            for module in free:
+                drawn.pop(module)
+
+    def test_names_are_drawn_from_the_file_that_defines_them(self):
+        for path in package_files():
+            for node in nodes_of(path):
+                if isinstance(node, ast.ImportFrom):
+                    tree = ast.parse((PACKAGE / (node.module.split(".")[1] + ".py")).read_text(encoding="utf-8"))
+                    for alias in node.names:
+                        self.assertIn(alias.name, top_names(tree))
+
+    def test_each_name_once_at_the_top_and_none_of_them_a_local(self):
+        for path in package_files():
+            tree = ast.parse(path.read_text(encoding="utf-8"))
+            imported = [alias.name for node in tree.body if isinstance(node, ast.ImportFrom) for alias in node.names]
+            names = top_names(tree) + imported
+            self.assertEqual(len(names), len(set(names)))
+            for function in [node for node in tree.body if isinstance(node, ast.FunctionDef)]:
+                self.assertEqual(set(bound_names(ast.walk(function))) & set(names), {function.name})
+
+    def test_expressions(self):
+        for path in package_files():
+            for node in nodes_of(path):
+                if isinstance(node, ast.Compare) and isinstance(node.ops[0], (ast.Is, ast.IsNot)):
+                    self.assertIsInstance(node.comparators[0], ast.Constant)
+                if isinstance(node, ast.FormattedValue):
+                    self.assertIsInstance(node.value, ast.Name)
+                    self.assertIsNone(node.format_spec)
+                if isinstance(node, ast.Constant) and isinstance(node.value, str):
+                    self.assertNotIn("%", node.value)
+                if isinstance(node, ast.Assign):
+                    self.assertEqual(len(node.targets), 1)
+                if isinstance(node, (ast.For, ast.While)):
+                    self.assertEqual(node.orelse, [])
+                if isinstance(node, ast.ListComp):
+                    self.assertEqual(len(node.generators), 1)
+                    self.assertLessEqual(len(node.generators[0].ifs), 1)
 
 
 if __name__ == "__main__":

@@ -6,6 +6,7 @@ import random
 import unittest
 
 from stepcells.layout import lay, starts
+from tests.helper import some_rows
 
 TELL = ("tell",)
 
@@ -268,15 +269,6 @@ def plain_cells(rows, fars):
         elif row[0] != "mark":
             cells.append({"tell": 2, "halt": 3}[row[0]])
     return cells
-
-
-def some_rows(chance, leading, others):
-    names = [f"m{number}" for number in range(chance.randint(1, leading + 1))]
-    rows = [("mark", name) for name in names]
-    rows += [(chance.choice(("jump", "when")), chance.choice(names)) for number in range(leading)]
-    rows += [chance.choice((TELL, ("halt",), ("grow", chance.randint(-20, 20)))) for number in range(others)]
-    chance.shuffle(rows)
-    return rows
 
 
 class TestManyRows(unittest.TestCase):

@@ -4,6 +4,8 @@ import unittest
 
 from stepcells.errors import NoMark, NoRow, TwoMarks
 from stepcells.layout import lay, starts
+from stepcells.machine import walked_rows
+from tests.helper import brief
 
 NAMES = [
     "a", "m", "z", "ab", "a0", "z9", "a1b2", "a00", "x" * 1000,
@@ -34,15 +36,18 @@ NO_ROWS = [
 ]
 
 
-def brief(rows):
-    """What can be shown of rows: Python won't write out a number of five thousand figures."""
-    return [tuple(part if isinstance(part, str) else ".." for part in row) for row in rows[:9]]
+def walked(rows):
+    return walked_rows(rows, 0, 9)
+
+
+def not_walked(rows):
+    return walked_rows(rows, 0, 0)
 
 
 class RefusalCase(unittest.TestCase):
     def refused(self, error, rows):
         before = list(rows)
-        for call in (starts, lay):
+        for call in (starts, lay, walked, not_walked):
             with self.subTest(call=call.__name__, rows=brief(rows)):
                 with self.assertRaises(error) as caught:
                     call(rows)
